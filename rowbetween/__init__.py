@@ -1,0 +1,1 @@
+"""Rowbetween: what two hands say of unknown numbers, and what lies between."""
