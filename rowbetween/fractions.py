@@ -4,7 +4,7 @@ from rowbetween.errors import NoQuotient
 
 
 def common_divisor(one, other):
-    """Tell the greatest common divisor of two whole numbers that are not both nought."""
+    """Tell the greatest common divisor of two whole numbers, nought where both are nought."""
     while other != 0:
         rest = one % other
         one = other

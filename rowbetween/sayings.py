@@ -14,6 +14,14 @@ def is_row(saying):
     return saying[0] == "least" or saying[0] == "more"
 
 
+def joined(word, sayings):
+    """Tell the one saying that puts one or more sayings together by a word."""
+    told = sayings[0]
+    for saying in sayings[1:]:
+        told = (word, told, saying)
+    return told
+
+
 def mark_names(saying, found):
     """Put the names that stand in a saying into the dict found."""
     if is_row(saying):

@@ -6,52 +6,14 @@ import unittest
 from rowbetween.errors import TooMany
 from rowbetween.sayings import cases, contrary, is_so, parts_of, plain
 from shapes import (
-    LONG, RowCase, both, count_parts, deep_saying, depth, either, is_row, least, more, no, random_point, random_row,
-    random_saying, value, within, words,
+    LONG, RowCase, all_cases, both, count_parts, deep_saying, depth, either, fits, joined, least, more, no,
+    plain_form, random_point, random_row, random_saying, value, within, words,
 )
 
 A = least(1, a=1)
 B = more(2, b=-3)
 C = least(-3, c=2)
 D = more(0, a=1, d=-1)
-
-
-def plain_form(saying):
-    """The plain form, word by word as the document tells it."""
-    if is_row(saying):
-        return saying
-    if saying[0] != "not":
-        return (saying[0], plain_form(saying[1]), plain_form(saying[2]))
-    inner = saying[1]
-    if is_row(inner):
-        word = "more" if inner[0] == "least" else "least"
-        return (word, tuple((name, -weight) for name, weight in inner[1]), -inner[2])
-    if inner[0] == "not":
-        return plain_form(inner[1])
-    word = "either" if inner[0] == "both" else "both"
-    return (word, plain_form(no(inner[1])), plain_form(no(inner[2])))
-
-
-def all_cases(saying):
-    """The cases of a plain saying, however many."""
-    if is_row(saying):
-        return [[saying]]
-    one = all_cases(saying[1])
-    other = all_cases(saying[2])
-    if saying[0] == "either":
-        return one + other
-    return [first + second for first in one for second in other]
-
-
-def fits(told):
-    return len(told) <= 4 and max(len(case) for case in told) <= 3
-
-
-def joined(word, sayings):
-    whole = sayings[0]
-    for saying in sayings[1:]:
-        whole = (word, whole, saying)
-    return whole
 
 
 class Contrary(RowCase):

@@ -39,6 +39,17 @@ NamedTuple TypedDict TYPE_CHECKING abstractmethod
 DOUBLE = ("__init__", "__eq__", "__repr__", "__str__", "__len__")
 
 
+def bound_at_the_top(tree):
+    """The names that a file's own rows bind at its top."""
+    names = []
+    for node in tree.body:
+        if isinstance(node, (ast.FunctionDef, ast.ClassDef)):
+            names.append(node.name)
+        if isinstance(node, ast.Assign):
+            names.extend(target.id for target in node.targets)
+    return names
+
+
 class Form(unittest.TestCase):
     def trees(self):
         for path in FILES:
@@ -99,6 +110,43 @@ class Form(unittest.TestCase):
                 self.assertEqual(node.level, 0)
                 self.assertTrue(node.module.startswith("rowbetween."), (name, node.module))
                 self.assertNotIn("*", [alias.name for alias in node.names])
+
+    def test_a_name_is_drawn_from_the_file_that_defines_it(self):
+        for name, node in self.trees():
+            if isinstance(node, ast.ImportFrom):
+                drawn = ast.parse((PACKAGE / (node.module.split(".")[1] + ".py")).read_text(encoding="ascii"))
+                for alias in node.names:
+                    self.assertIn(alias.name, bound_at_the_top(drawn), (name, node.lineno))
+                    self.assertIsNone(alias.asname, (name, node.lineno))
+
+    def test_no_two_files_draw_from_one_another(self):
+        draws = {path.stem: [] for path in FILES}
+        for name, node in self.trees():
+            if isinstance(node, ast.ImportFrom):
+                draws[name[:-3]].append(node.module.split(".")[1])
+        while draws:
+            ready = [stem for stem, others in draws.items() if not set(others) & set(draws)]
+            self.assertNotEqual(ready, [], draws)
+            for stem in ready:
+                draws.pop(stem)
+
+    def test_a_name_is_bound_once_at_the_top(self):
+        for path in FILES:
+            names = bound_at_the_top(ast.parse(path.read_text(encoding="ascii")))
+            self.assertEqual(len(names), len(set(names)), path.name)
+
+    def test_no_local_is_called_like_what_is_bound_at_the_top(self):
+        for path in FILES:
+            tree = ast.parse(path.read_text(encoding="ascii"))
+            outer = set(bound_at_the_top(tree)) | {
+                alias.name for node in tree.body if isinstance(node, ast.ImportFrom) for alias in node.names
+            }
+            for top in tree.body:
+                for node in ast.walk(top) if isinstance(top, (ast.FunctionDef, ast.ClassDef)) else []:
+                    if isinstance(node, ast.arg):
+                        self.assertNotIn(node.arg, outer, (path.name, node.lineno))
+                    if isinstance(node, ast.Name) and isinstance(node.ctx, ast.Store):
+                        self.assertNotIn(node.id, outer, (path.name, node.lineno))
 
     def test_names(self):
         for name, node in self.trees():
